@@ -26,7 +26,7 @@ type parcel struct {
 	form     string
 }
 
-// model is the chapter, said again by another hand: nodes, disks, clocks, one list of parcels.
+// model is the chapter, said a second time in another way: nodes, disks, clocks, one list of parcels. It shares the reading of the chapter, so it shows slips and not misreadings.
 type model struct {
 	g       api.Genesis
 	book    *seal.Registry
